@@ -53,6 +53,18 @@ func (d *dice) below(n int) int {
 	return int(uint64(*d>>33) % uint64(n))
 }
 
+// changed returns a text, a byte of which is replaced, added or taken away; new
+// bytes are some of letters, or of the text.
+func changed(d *dice, from, letters string) string {
+	bytes := letters + from
+	at, by := d.below(len(from)), bytes[d.below(len(bytes))]
+	s := from[:at] + string(rune(by)) + from[at+d.below(2):]
+	if d.below(4) == 0 {
+		s = from[:at] + from[at+1:]
+	}
+	return s
+}
+
 // span is the memory of a slice, with its unused capacity.
 type span struct{ from, to uintptr }
 

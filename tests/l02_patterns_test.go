@@ -680,12 +680,7 @@ func TestReadPatternOfChangedTexts(t *testing.T) {
 	for _, p := range slices.Concat(somePlanes(), somePatterns()) {
 		from := patternText(p)
 		for range 40 {
-			bytes := "0123456789 ,x\n-+" + from
-			at, by := d.below(len(from)), bytes[d.below(len(bytes))]
-			s := from[:at] + string(rune(by)) + from[at+d.below(2):]
-			if d.below(4) == 0 {
-				s = from[:at] + from[at+1:]
-			}
+			s := changed(&d, from, "0123456789 ,x\n-+")
 			got, code := impl.ReadPattern(s)
 			if want := isPatternText(s); want != (code == impl.OK) {
 				t.Fatalf("ReadPattern of %q: %d", s, code)
