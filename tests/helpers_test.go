@@ -157,3 +157,17 @@ func roomy[T any](list []T, kept T) []T {
 	}
 	return room
 }
+
+// checkRead checks that a text is read just if it is one, and that what has been
+// read has this text. It returns 1 for a text that is one, and 0 otherwise.
+func checkRead[T any](t *testing.T, s string, isText bool, read func(string) (T, int64), textOf func(T) string) int {
+	t.Helper()
+	got, code := read(s)
+	if !isText {
+		var nothing T
+		check(t, fmt.Sprintf("reading %q", s), all(got, code), all(nothing, 5))
+		return 0
+	}
+	check(t, fmt.Sprintf("the text of what has been read of %q", s), all(textOf(got), code), all(s, 0))
+	return 1
+}

@@ -462,16 +462,7 @@ func TestReadSquareOfChangedTexts(t *testing.T) {
 			s := []byte(from)
 			bytes := ".abcdefzAZ07\n89 " + from
 			s[d.below(len(s))] = bytes[d.below(len(bytes))]
-			got, code := impl.ReadSquare(string(s))
-			if want := isText(string(s)); want != (code == impl.OK) {
-				t.Fatalf("ReadSquare of %q: %d", s, code)
-			}
-			if code == impl.OK {
-				good++
-				check(t, "the text of what has been read", impl.SquareText(got), string(s))
-			} else {
-				check(t, "no text", all(got, code), all(none, 5))
-			}
+			good += checkRead(t, string(s), isText(string(s)), impl.ReadSquare, impl.SquareText)
 		}
 	}
 	if good < 100 {

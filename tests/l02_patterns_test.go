@@ -681,16 +681,7 @@ func TestReadPatternOfChangedTexts(t *testing.T) {
 		from := patternText(p)
 		for range 40 {
 			s := changed(&d, from, "0123456789 ,x\n-+")
-			got, code := impl.ReadPattern(s)
-			if want := isPatternText(s); want != (code == impl.OK) {
-				t.Fatalf("ReadPattern of %q: %d", s, code)
-			}
-			if code == impl.OK {
-				good++
-				check(t, "the text of what has been read", impl.PatternText(got), s)
-			} else {
-				check(t, "no text", all(got, code), all(noPattern, 5))
-			}
+			good += checkRead(t, s, isPatternText(s), impl.ReadPattern, impl.PatternText)
 		}
 	}
 	if good < 1000 {

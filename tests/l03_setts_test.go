@@ -812,16 +812,7 @@ func TestReadSettsOfChangedTexts(t *testing.T) {
 		from := settsText(list)
 		for range 60 {
 			s := changed(&d, from, "0123456789 x,-+\n")
-			got, code := impl.ReadSetts(s)
-			if want := isSettsText(s); want != (code == impl.OK) {
-				t.Fatalf("ReadSetts of %q: %d", s, code)
-			}
-			if code == impl.OK {
-				good++
-				check(t, "the text of what has been read", impl.SettsText(got), s)
-			} else {
-				check(t, "no text", all(got, code), "[[] 5]")
-			}
+			good += checkRead(t, s, isSettsText(s), impl.ReadSetts, impl.SettsText)
 		}
 	}
 	if good < 1000 {

@@ -747,16 +747,7 @@ func TestReadGroundOfChangedTexts(t *testing.T) {
 		from := groundText(g)
 		for range 60 {
 			s := changed(&d, from, "0123456789 g\n-+")
-			got, code := impl.ReadGround(s)
-			if want := isGroundText(s); want != (code == impl.OK) {
-				t.Fatalf("ReadGround of %q: %d", s, code)
-			}
-			if code == impl.OK {
-				good++
-				check(t, "the text of what has been read", impl.GroundText(got), s)
-			} else {
-				check(t, "no text", all(got, code), all(impl.Ground{}, 5))
-			}
+			good += checkRead(t, s, isGroundText(s), impl.ReadGround, impl.GroundText)
 		}
 	}
 	if good < 2000 {

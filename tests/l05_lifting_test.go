@@ -955,16 +955,7 @@ func TestReadOrderOfChangedTexts(t *testing.T) {
 			order = append(order, int64(d.below([]int{3, 12, 1000}[d.below(3)])))
 		}
 		s := changed(&d, orderText(order), "0123456789  -+\n")
-		got, code := impl.ReadOrder(s)
-		if want := isOrderText(s); want != (code == impl.OK) {
-			t.Fatalf("ReadOrder of %q: %d", s, code)
-		}
-		if code == impl.OK {
-			good++
-			check(t, "the text of what has been read", impl.OrderText(got), s)
-		} else {
-			check(t, "no text", all(got, code), "[[] 5]")
-		}
+		good += checkRead(t, s, isOrderText(s), impl.ReadOrder, impl.OrderText)
 	}
 	if good < 1000 {
 		t.Errorf("only %d texts were good", good)

@@ -907,16 +907,8 @@ func TestReadLevelsOfChangedTexts(t *testing.T) {
 	for range 4000 {
 		q := rowSquare(1 + d.below(5))
 		s := changed(&d, levelsText(someLevels(&d, len(q.Slabs), 8)), "0123456789  --,x+\n")
-		got, code := impl.ReadLevels(q, s)
-		if want := isLevelsText(s, len(q.Slabs)); want != (code == impl.OK) {
-			t.Fatalf("ReadLevels of %q: %d", s, code)
-		}
-		if code == impl.OK {
-			good++
-			check(t, "the text of what has been read", impl.LevelsText(q, got), s)
-		} else {
-			check(t, "no text", all(got, code), "[[] 5]")
-		}
+		readLevels := func(s string) ([]int64, int64) { return impl.ReadLevels(q, s) }
+		good += checkRead(t, s, isLevelsText(s, len(q.Slabs)), readLevels, func(levels []int64) string { return impl.LevelsText(q, levels) })
 	}
 	if good < 800 {
 		t.Errorf("only %d texts were good", good)
